@@ -7,6 +7,7 @@ import (
 	"testing"
 
 	"heliograph/api"
+	"heliograph/sample"
 )
 
 const far = int64(api.Far)
@@ -14,76 +15,6 @@ const far = int64(api.Far)
 func bx(x0, y0, x1, y1 int64) api.Box { return api.Box{X0: x0, Y0: y0, X1: x1, Y1: y1} }
 
 func pt(x, y int64) api.Pt { return api.Pt{X: x, Y: y} }
-
-// boxes are all boxes, also of one line or one point, whose coordinates are from low to high.
-func boxes(low, high int64) []api.Box {
-	var list []api.Box
-	for x0 := low; x0 <= high; x0++ {
-		for x1 := x0; x1 <= high; x1++ {
-			for y0 := low; y0 <= high; y0++ {
-				for y1 := y0; y1 <= high; y1++ {
-					list = append(list, bx(x0, y0, x1, y1))
-				}
-			}
-		}
-	}
-	return list
-}
-
-// points are all points whose coordinates are from low to high.
-func points(low, high int64) []api.Pt {
-	var list []api.Pt
-	for x := low; x <= high; x++ {
-		for y := low; y <= high; y++ {
-			list = append(list, pt(x, y))
-		}
-	}
-	return list
-}
-
-// within are all whole points of b, found without Has.
-func within(b api.Box) []api.Pt {
-	var list []api.Pt
-	for x := b.X0; x <= b.X1; x++ {
-		for y := b.Y0; y <= b.Y1; y++ {
-			list = append(list, pt(x, y))
-		}
-	}
-	return list
-}
-
-// randomNumber is a coordinate of any size up to Far, often one at or beside Far or 0.
-func randomNumber(random *rand.Rand) int64 {
-	switch random.Intn(6) {
-	case 0:
-		return far - random.Int63n(3)
-	case 1:
-		return random.Int63n(3) - far
-	case 2:
-		return random.Int63n(7) - 3
-	}
-	return (random.Int63n(2*far+1) - far) >> random.Intn(30)
-}
-
-func randomPoint(random *rand.Rand) api.Pt {
-	return pt(randomNumber(random), randomNumber(random))
-}
-
-func randomBox(random *rand.Rand) api.Box {
-	a, b := randomPoint(random), randomPoint(random)
-	if random.Intn(3) == 0 {
-		b.X = a.X
-	}
-	if random.Intn(3) == 0 {
-		b.Y = a.Y
-	}
-	return bx(min(a.X, b.X), min(a.Y, b.Y), max(a.X, b.X), max(a.Y, b.Y))
-}
-
-// extremes are numbers at Far, just beyond it, and at the ends of 64 bits.
-func extremes() []int64 {
-	return []int64{0, 1, -1, far, far + 1, -far, -far - 1, 1 << 31, -1 << 31, 1 << 62, -1 << 62, math.MaxInt64, math.MaxInt64 - 1, math.MinInt64, math.MinInt64 + 1}
-}
 
 // 4.1: Ok at the limits of every number and beyond them, and with ends in the right order and exchanged.
 func TestOk(t *testing.T) {
@@ -152,12 +83,12 @@ func TestHas(t *testing.T) {
 
 // 4.1: Has answers true for just the points of a box.
 func TestHasEverywhere(t *testing.T) {
-	for _, b := range boxes(-2, 2) {
+	for _, b := range sample.Boxes(-2, 2) {
 		inside := map[api.Pt]int{}
-		for _, p := range within(b) {
+		for _, p := range sample.Points(b) {
 			inside[p]++
 		}
-		for _, p := range points(-4, 4) {
+		for _, p := range sample.Points(bx(-4, -4, 4, 4)) {
 			if Has(b, p) != (inside[p] > 0) {
 				t.Errorf("Has(%v, %v) = %v", b, p, Has(b, p))
 			}
@@ -245,7 +176,7 @@ func checkQuarters(t *testing.T, b api.Box) {
 
 // 4.1: all small boxes, at either Far and around 0, and boxes of any size.
 func TestSplitEverywhere(t *testing.T) {
-	for _, b := range boxes(0, 6) {
+	for _, b := range sample.Boxes(0, 6) {
 		for _, by := range []int64{-far, -3, 0, far - 6} {
 			checkQuarters(t, bx(b.X0+by, b.Y0+by, b.X1+by, b.Y1+by))
 			checkQuarters(t, bx(b.X0+by, b.Y0-3, b.X1+by, b.Y1-3))
@@ -253,7 +184,7 @@ func TestSplitEverywhere(t *testing.T) {
 	}
 	random := rand.New(rand.NewSource(41))
 	for range 100000 {
-		checkQuarters(t, randomBox(random))
+		checkQuarters(t, sample.Box(random.Int63n))
 	}
 }
 
@@ -302,10 +233,10 @@ func TestNearAndMost(t *testing.T) {
 
 // 4.2, 4.3: Near and Most are the least and the greatest of the distances of all whole points of a box: from a whole point, its nearest and farthest points are whole.
 func TestDistancesEverywhere(t *testing.T) {
-	for _, b := range boxes(-3, 2) {
-		for _, p := range points(-6, 6) {
+	for _, b := range sample.Boxes(-3, 2) {
+		for _, p := range sample.Points(bx(-6, -6, 6, 6)) {
 			near, most := int64(math.MaxInt64), int64(-1)
-			for _, q := range within(b) {
+			for _, q := range sample.Points(b) {
 				d := (q.X-p.X)*(q.X-p.X) + (q.Y-p.Y)*(q.Y-p.Y)
 				near, most = min(near, d), max(most, d)
 			}
@@ -327,7 +258,7 @@ func bigDistance(p, q api.Pt) *big.Int {
 func TestDistancesAnySize(t *testing.T) {
 	random := rand.New(rand.NewSource(42))
 	for range 50000 {
-		b, p := randomBox(random), randomPoint(random)
+		b, p := sample.Box(random.Int63n), sample.Point(random.Int63n)
 		list := Corners(b)
 		places := list[:]
 		if b.X0 <= p.X && p.X <= b.X1 {
@@ -379,7 +310,7 @@ func TestCross(t *testing.T) {
 func TestCrossExact(t *testing.T) {
 	random := rand.New(rand.NewSource(43))
 	for range 100000 {
-		o, a, b := randomPoint(random), randomPoint(random), randomPoint(random)
+		o, a, b := sample.Point(random.Int63n), sample.Point(random.Int63n), sample.Point(random.Int63n)
 		first := new(big.Int).Mul(big.NewInt(a.X-o.X), big.NewInt(b.Y-o.Y))
 		second := new(big.Int).Mul(big.NewInt(a.Y-o.Y), big.NewInt(b.X-o.X))
 		if want := first.Sub(first, second); big.NewInt(Cross(o, a, b)).Cmp(want) != 0 {
@@ -470,7 +401,7 @@ func meetsOf(b api.Box, p, q api.Pt) bool {
 
 // 4.2: all segments between points around a few boxes.
 func TestMeetsEverywhere(t *testing.T) {
-	ends := points(-3, 5)
+	ends := sample.Points(bx(-3, -3, 5, 5))
 	for _, b := range []api.Box{bx(0, 0, 0, 0), bx(0, 0, 1, 1), bx(0, 0, 2, 0), bx(1, 0, 1, 2), bx(0, 0, 2, 1), bx(-1, 0, 2, 3), bx(-1, -1, 3, 0)} {
 		for _, p := range ends {
 			for _, q := range ends {
@@ -484,7 +415,7 @@ func TestMeetsEverywhere(t *testing.T) {
 func TestMeetsAnySize(t *testing.T) {
 	random := rand.New(rand.NewSource(44))
 	for i := range 100000 {
-		b, p, q := randomBox(random), randomPoint(random), randomPoint(random)
+		b, p, q := sample.Box(random.Int63n), sample.Point(random.Int63n), sample.Point(random.Int63n)
 		if i%2 == 0 {
 			corner := Corners(b)[random.Intn(4)]
 			x, y := random.Int63n(far)>>random.Intn(29)-1, random.Int63n(far)>>random.Intn(29)-1
@@ -530,15 +461,15 @@ func TestApart(t *testing.T) {
 
 // 4.2: for all pairs of small boxes, Apart answers true just if they have no whole point in common: where two of them meet, they have a corner of an edge in common, which is whole.
 func TestApartEverywhere(t *testing.T) {
-	list := boxes(0, 4)
+	list := sample.Boxes(0, 4)
 	for _, a := range list {
 		inside := map[api.Pt]int{}
-		for _, p := range within(a) {
+		for _, p := range sample.Points(a) {
 			inside[p]++
 		}
 		for _, b := range list {
 			common := 0
-			for _, p := range within(b) {
+			for _, p := range sample.Points(b) {
 				common += inside[p]
 			}
 			checkApart(t, a, b, common == 0)
@@ -548,12 +479,12 @@ func TestApartEverywhere(t *testing.T) {
 
 // 4.3: the quarters of a box hold all of its points and no others, and have only their edges in common.
 func TestQuartersHoldTheBox(t *testing.T) {
-	for _, b := range boxes(-2, 4) {
+	for _, b := range sample.Boxes(-2, 4) {
 		quarters, ok := Split(b)
 		if !ok {
 			continue
 		}
-		for _, p := range points(-4, 6) {
+		for _, p := range sample.Points(bx(-4, -4, 6, 6)) {
 			times, inner := 0, 0
 			for _, q := range quarters {
 				if Has(q, p) {
@@ -574,7 +505,7 @@ func TestQuartersHoldTheBox(t *testing.T) {
 func TestSaidOfAllPoints(t *testing.T) {
 	random := rand.New(rand.NewSource(45))
 	for range 20000 {
-		b, a, p, q := randomBox(random), randomBox(random), randomPoint(random), randomPoint(random)
+		b, a, p, q := sample.Box(random.Int63n), sample.Box(random.Int63n), sample.Point(random.Int63n), sample.Point(random.Int63n)
 		near, most := Near(b, p), Most(b, p)
 		if (near == 0) != Has(b, p) || near > most {
 			t.Fatalf("%v, %v: Near %d, Most %d", b, p, near, most)
@@ -617,7 +548,7 @@ func TestNoPanic(t *testing.T) {
 			t.Errorf("panic: %v", r)
 		}
 	}()
-	list := extremes()
+	list := sample.Extremes()
 	for _, x := range list {
 		for _, y := range list {
 			for _, z := range list {
