@@ -12,8 +12,7 @@ import (
 
 const far = int64(api.Far)
 
-// across is the least radius that reaches from (-far, -far) to (far, far), whose distance is the root of 2^61.
-const across = 1518500250
+const across = sample.Across
 
 func bx(x0, y0, x1, y1 int64) api.Box { return api.Box{X0: x0, Y0: y0, X1: x1, Y1: y1} }
 
@@ -64,16 +63,6 @@ func classOf(near, most *big.Int, r int64) int {
 		return api.In
 	}
 	return api.Mixed
-}
-
-// greatRadii are radii around those that reach just across all points, whose squares just fit, or don't, into 63 or 64 bits, or wrap round to 0 or beyond.
-func greatRadii() []int64 {
-	return []int64{far - 1, far, far + 1, 1 << 30, across - 1, across, across + 1, 1<<31 - 1, 1 << 31, 1<<31 + 1, 3037000499, 3037000500, 1<<32 - 1, 1 << 32, 1<<32 + 1, 1 << 33, 6074001000, 1 << 48, 1 << 62, 1<<62 + 1, math.MaxInt64 - 1, math.MaxInt64}
-}
-
-// noRadii are radii of empty discs; some have squares that are great, or that wrap round.
-func noRadii() []int64 {
-	return []int64{0, -1, -2, -5, -far, -across, -1 << 31, -3037000500, -1 << 32, -1<<32 - 1, -1 << 62, math.MinInt64 + 1, math.MinInt64}
 }
 
 // 5.1: points at the centre, inside, at a distance of exactly r, and just beyond it.
@@ -150,7 +139,7 @@ func TestClass(t *testing.T) {
 
 // 5.1: a disc is empty if its radius is below 1, whatever the square of its radius.
 func TestNoRadius(t *testing.T) {
-	for _, r := range noRadii() {
+	for _, r := range sample.NoRadii() {
 		for _, c := range []api.Pt{pt(0, 0), pt(3, -4), pt(far, far), pt(-far, far)} {
 			if Has(c, c, r) || Has(pt(0, 0), c, r) {
 				t.Errorf("the disc around %v with radius %d has a point", c, r)
@@ -173,7 +162,7 @@ func TestGreatRadius(t *testing.T) {
 			list = append(list, pt(x, y))
 		}
 	}
-	for _, r := range greatRadii() {
+	for _, r := range sample.GreatRadii() {
 		for _, c := range list {
 			for _, p := range list {
 				if want := reaches(r, bigDistance(p, c)); Has(p, c, r) != want {
@@ -343,12 +332,7 @@ func TestExchangedEnds(t *testing.T) {
 func TestNoPanic(t *testing.T) {
 	list := sample.Extremes()
 	random := rand.New(rand.NewSource(53))
-	number := func() int64 {
-		if random.Intn(3) == 0 {
-			return int64(random.Uint64())
-		}
-		return list[random.Intn(len(list))]
-	}
+	number := func() int64 { return sample.Any(random.Int63n) }
 	for range 500000 {
 		c, r := pt(number(), number()), number()
 		Has(pt(number(), number()), c, r)

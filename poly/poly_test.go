@@ -617,12 +617,7 @@ func TestExchangedEnds(t *testing.T) {
 func TestNoPanic(t *testing.T) {
 	ends := sample.Extremes()
 	random := rand.New(rand.NewSource(65))
-	number := func() int64 {
-		if random.Intn(3) == 0 {
-			return int64(random.Uint64())
-		}
-		return ends[random.Intn(len(ends))]
-	}
+	number := func() int64 { return sample.Any(random.Int63n) }
 	for range 200000 {
 		l := contours(random, 2, func() api.Pt { return pt(number(), number()) })
 		Has(pt(number(), number()), l)

@@ -1,9 +1,12 @@
-// Package sample makes the numbers, points and boxes that the tests of several packages try.
+// Package sample makes the numbers, points, boxes and radii that the tests of several packages try.
 package sample
 
 import (
 	"heliograph/api"
 )
+
+// Across is the least radius that reaches from (-Far, -Far) to (Far, Far), whose distance is the root of 2^61.
+const Across = 1518500250
 
 // Boxes returns all boxes, also of one line or one point, whose coordinates are from low to high.
 func Boxes(low, high int64) []api.Box {
@@ -64,4 +67,23 @@ func Box(below func(n int64) int64) api.Box {
 // Extremes returns 0, and numbers beside it, at Far, just beyond it, and at the ends of 64 bits.
 func Extremes() []int64 {
 	return []int64{0, 1, -1, api.Far, api.Far + 1, -api.Far, -api.Far - 1, 1 << 31, -1 << 31, 1 << 62, -1 << 62, 1<<63 - 1, 1<<63 - 2, -1 << 63, -1<<63 + 1}
+}
+
+// Any returns a number of any size, often one of the Extremes. What it returns hangs on below, as that of Number.
+func Any(below func(n int64) int64) int64 {
+	if below(3) == 0 {
+		return below(1<<32)<<32 | below(1<<32)
+	}
+	list := Extremes()
+	return list[below(int64(len(list)))]
+}
+
+// NoRadii returns radii of empty shapes; some have squares that are great, or that wrap round.
+func NoRadii() []int64 {
+	return []int64{0, -1, -2, -5, -api.Far, -Across, -1 << 31, -3037000500, -1 << 32, -1<<32 - 1, -1 << 62, -1<<63 + 1, -1 << 63}
+}
+
+// GreatRadii returns radii around those that reach just across all points, whose squares just fit, or don't, into 63 or 64 bits, or wrap round to 0 or beyond.
+func GreatRadii() []int64 {
+	return []int64{api.Far - 1, api.Far, api.Far + 1, 1 << 30, Across - 1, Across, Across + 1, 1<<31 - 1, 1 << 31, 1<<31 + 1, 3037000499, 3037000500, 1<<32 - 1, 1 << 32, 1<<32 + 1, 1 << 33, 6074001000, 1 << 48, 1 << 62, 1<<62 + 1, 1<<63 - 2, 1<<63 - 1}
 }

@@ -50,7 +50,33 @@ func TestRandom(t *testing.T) {
 	if found[api.Far] == 0 || found[-api.Far] == 0 || found[api.Far-1] == 0 || found[0] == 0 || lines == 0 || dots == 0 {
 		t.Error(found[api.Far], found[-api.Far], found[api.Far-1], found[0], lines, dots)
 	}
+	seen := map[int64]int{}
+	for range 1000 {
+		seen[Any(below)]++
+	}
+	for _, v := range Extremes() {
+		if seen[v] == 0 {
+			t.Error(v, "never comes")
+		}
+	}
+	if len(seen) < 200 {
+		t.Error("no others come:", len(seen))
+	}
 	if list := Extremes(); slices.Max(list) != 1<<63-1 || slices.Min(list) != -1<<63 {
 		t.Error(list)
+	}
+}
+
+// The radii are those of empty shapes and of great ones, up to the ends of 64 bits, and around the one that just reaches across.
+func TestRadii(t *testing.T) {
+	if none := NoRadii(); slices.Max(none) != 0 || slices.Min(none) != -1<<63 {
+		t.Error(none)
+	}
+	great := GreatRadii()
+	if slices.Min(great) != api.Far-1 || slices.Max(great) != 1<<63-1 || !slices.Contains(great, Across) || !slices.Contains(great, Across-1) {
+		t.Error(great)
+	}
+	if Across*Across < 1<<61 || (Across-1)*(Across-1) >= 1<<61 {
+		t.Error(Across)
 	}
 }
