@@ -155,13 +155,7 @@ func TestNoRadius(t *testing.T) {
 
 // 5.1: radii have no upper bound, and the greatest ones reach every point.
 func TestGreatRadius(t *testing.T) {
-	ends := []int64{-far, -far + 1, 0, far - 1, far}
-	var list []api.Pt
-	for _, x := range ends {
-		for _, y := range ends {
-			list = append(list, pt(x, y))
-		}
-	}
+	list := sample.Scattered()
 	for _, r := range sample.GreatRadii() {
 		for _, c := range list {
 			for _, p := range list {
@@ -319,7 +313,7 @@ func TestExactlyR(t *testing.T) {
 // 5.1: a box whose ends are exchanged has no point, and so none of any disc.
 func TestExchangedEnds(t *testing.T) {
 	c := pt(0, 0)
-	for _, b := range []api.Box{bx(1, 0, 0, 0), bx(0, 1, 0, 0), bx(1, 1, 0, 0), bx(1, -1, -1, 1), bx(-1, 1, 1, -1), bx(2, 2, -2, -2), bx(far, far, -far, -far), bx(9, 0, 8, 1)} {
+	for _, b := range sample.Backward() {
 		for _, r := range []int64{0, 1, 2, 5, across, math.MaxInt64} {
 			if got := Class(b, c, r); got != api.Out {
 				t.Errorf("Class(%v, %v, %d) = %d", b, c, r, got)
@@ -330,25 +324,10 @@ func TestExchangedEnds(t *testing.T) {
 
 // 5.3: no call panics, whatever the order and the size of the numbers.
 func TestNoPanic(t *testing.T) {
-	list := sample.Extremes()
-	random := rand.New(rand.NewSource(53))
-	number := func() int64 { return sample.Any(random.Int63n) }
-	for range 500000 {
-		c, r := pt(number(), number()), number()
-		Has(pt(number(), number()), c, r)
-		if class := Class(bx(number(), number(), number(), number()), c, r); class != api.Out && class != api.Mixed && class != api.In {
+	sample.Wild(rand.New(rand.NewSource(53)).Int63n, func(b api.Box, p [4]api.Pt, r int64) {
+		Has(p[0], p[1], r)
+		if class := Class(b, p[1], r); class != api.Out && class != api.Mixed && class != api.In {
 			t.Fatal("class", class)
 		}
-	}
-	for _, x := range list {
-		for _, y := range list {
-			for _, r := range list {
-				Has(pt(x, y), pt(y, x), r)
-				Has(pt(x, y), pt(x, y), r)
-				Class(bx(x, y, x, y), pt(y, x), r)
-				Class(bx(x, y, y, x), pt(r, x), r)
-				Class(bx(x, x, y, y), pt(y, r), x)
-			}
-		}
-	}
+	})
 }

@@ -19,16 +19,6 @@ func bx(x0, y0, x1, y1 int64) api.Box { return api.Box{X0: x0, Y0: y0, X1: x1, Y
 
 func pt(x, y int64) api.Pt { return api.Pt{X: x, Y: y} }
 
-// dotBox is the box of one point.
-func dotBox(p api.Pt) api.Box { return bx(p.X, p.Y, p.X, p.Y) }
-
-// between is the box with these opposite corners.
-func between(p, q api.Pt) api.Box {
-	return bx(min(p.X, q.X), min(p.Y, q.Y), max(p.X, q.X), max(p.Y, q.Y))
-}
-
-func moved(p api.Pt, x, y int64) api.Pt { return pt(p.X+x, p.Y+y) }
-
 func corners(b api.Box) []api.Pt {
 	return []api.Pt{pt(b.X0, b.Y0), pt(b.X1, b.Y0), pt(b.X0, b.Y1), pt(b.X1, b.Y1)}
 }
@@ -120,7 +110,7 @@ func squareOf(b api.Box, a, c api.Pt) frac {
 func farthest(b api.Box, a, c api.Pt) frac {
 	most := frac{new(big.Int), big.NewInt(1)}
 	for _, p := range corners(b) {
-		if next := squareOf(dotBox(p), a, c); most.less(next) {
+		if next := squareOf(sample.Dot(p), a, c); most.less(next) {
 			most = next
 		}
 	}
@@ -274,8 +264,8 @@ func TestNoRadius(t *testing.T) {
 			for _, c := range ends {
 				for _, p := range []api.Pt{pt(0, 0), a, c, pt((a.X+c.X)/2, (a.Y+c.Y)/2)} {
 					checkHas(t, p, a, c, r, false)
-					checkClass(t, dotBox(p), a, c, r, api.Out)
-					checkClass(t, between(p, a), a, c, r, api.Out)
+					checkClass(t, sample.Dot(p), a, c, r, api.Out)
+					checkClass(t, sample.Between(p, a), a, c, r, api.Out)
 				}
 				checkClass(t, bx(-far, -far, far, far), a, c, r, api.Out)
 				checkClass(t, bx(0, -4, 3, 0), a, c, r, api.Out)
@@ -286,18 +276,12 @@ func TestNoRadius(t *testing.T) {
 
 // 7.1: radii have no upper bound, and the greatest ones reach every point.
 func TestGreatRadius(t *testing.T) {
-	numbers := []int64{-far, 1 - far, 0, far}
-	var list []api.Pt
-	for _, x := range numbers {
-		for _, y := range numbers {
-			list = append(list, pt(x, y))
-		}
-	}
+	list := sample.Scattered()
 	for i, a := range list {
 		for _, c := range list[:i+1] {
 			for _, p := range list {
-				b := between(p, pt(1, 1))
-				dot, nearest, most := squareOf(dotBox(p), a, c), squareOf(b, a, c), farthest(b, a, c)
+				b := sample.Between(p, pt(1, 1))
+				dot, nearest, most := squareOf(sample.Dot(p), a, c), squareOf(b, a, c), farthest(b, a, c)
 				for _, r := range sample.GreatRadii() {
 					checkHas(t, p, a, c, r, dot.within(r))
 					checkClass(t, b, a, c, r, classOf(nearest, most, r))
@@ -307,19 +291,10 @@ func TestGreatRadius(t *testing.T) {
 	}
 }
 
-// segments calls do with all segments from whole points of the one box to whole points of the other.
-func segments(from, to api.Box, do func(a, c api.Pt)) {
-	for _, a := range sample.Points(from) {
-		for _, c := range sample.Points(to) {
-			do(a, c)
-		}
-	}
-}
-
 // 7.1: Has for all points in and around small strokes in all directions.
 func TestHasEverywhere(t *testing.T) {
 	points := sample.Points(bx(-7, -7, 11, 11))
-	segments(bx(0, 0, 1, 1), bx(-3, -3, 5, 5), func(a, c api.Pt) {
+	sample.Segments(bx(0, 0, 1, 1), bx(-3, -3, 5, 5), func(a, c api.Pt) {
 		for r := int64(-2); r <= 6; r++ {
 			for _, p := range points {
 				checkHas(t, p, a, c, r, hasOf(p, a, c, r))
@@ -328,23 +303,8 @@ func TestHasEverywhere(t *testing.T) {
 	})
 }
 
-// filled is a box with all of its whole points.
-type filled struct {
-	b      api.Box
-	points []api.Pt
-}
-
-// boxes are those of sample.Boxes, filled.
-func boxes(low, high int64) []filled {
-	var list []filled
-	for _, b := range sample.Boxes(low, high) {
-		list = append(list, filled{b, sample.Points(b)})
-	}
-	return list
-}
-
 // checkBoxes checks Class for the boxes, which lie in the area, against all of their whole points; a, c and the boxes are moved by by. No other point changes the class: the corners are whole, and so are the ends and the points of a box that are nearest to them; and what the segment has within a box is less than 1 away from a whole point of it.
-func checkBoxes(t *testing.T, area api.Box, list []filled, a, c, by api.Pt, r int64) {
+func checkBoxes(t *testing.T, area api.Box, list []sample.Filled, a, c, by api.Pt, r int64) {
 	t.Helper()
 	inside := map[api.Pt]int{}
 	for _, p := range sample.Points(area) {
@@ -352,26 +312,26 @@ func checkBoxes(t *testing.T, area api.Box, list []filled, a, c, by api.Pt, r in
 			inside[p] = 1
 		}
 	}
-	a, c = moved(a, by.X, by.Y), moved(c, by.X, by.Y)
+	a, c = sample.Moved(a, by.X, by.Y), sample.Moved(c, by.X, by.Y)
 	for _, f := range list {
 		in := 0
-		for _, p := range f.points {
+		for _, p := range f.Points {
 			in += inside[p]
 		}
 		want := api.Mixed
 		if in == 0 {
 			want = api.Out
-		} else if in == len(f.points) {
+		} else if in == len(f.Points) {
 			want = api.In
 		}
-		checkClass(t, bx(f.b.X0+by.X, f.b.Y0+by.Y, f.b.X1+by.X, f.b.Y1+by.Y), a, c, r, want)
+		checkClass(t, bx(f.Box.X0+by.X, f.Box.Y0+by.Y, f.Box.X1+by.X, f.Box.Y1+by.Y), a, c, r, want)
 	}
 }
 
 // 7.1, 7.2: all small boxes in, across, beside and around small strokes in all directions.
 func TestClassEverywhere(t *testing.T) {
-	list := boxes(-2, 2)
-	segments(bx(-4, -4, 1, 1), bx(-4, -4, 4, 4), func(a, c api.Pt) {
+	list := sample.FilledBoxes(-2, 2)
+	sample.Segments(bx(-4, -4, 1, 1), bx(-4, -4, 4, 4), func(a, c api.Pt) {
 		for r := int64(0); r <= 4; r++ {
 			checkBoxes(t, bx(-2, -2, 2, 2), list, a, c, pt(0, 0), r)
 		}
@@ -380,10 +340,10 @@ func TestClassEverywhere(t *testing.T) {
 
 // 7.2: small boxes and strokes at either Far.
 func TestEverywhereAtFar(t *testing.T) {
-	list := boxes(0, 3)
+	list := sample.FilledBoxes(0, 3)
 	for _, x := range []int64{-far, far - 3} {
 		for _, y := range []int64{-far, far - 3} {
-			segments(bx(0, 0, 3, 3), bx(0, 0, 3, 3), func(a, c api.Pt) {
+			sample.Segments(bx(0, 0, 3, 3), bx(0, 0, 3, 3), func(a, c api.Pt) {
 				for r := int64(0); r <= 3; r++ {
 					checkBoxes(t, bx(0, 0, 3, 3), list, a, c, pt(x, y), r)
 				}
@@ -396,7 +356,7 @@ func TestEverywhereAtFar(t *testing.T) {
 func TestClassBetween(t *testing.T) {
 	list := sample.Boxes(-1, 2)
 	fine := sample.Points(bx(-4, -4, 8, 8))
-	segments(bx(-3, -3, 1, 1), bx(-3, -3, 3, 3), func(a, c api.Pt) {
+	sample.Segments(bx(-3, -3, 1, 1), bx(-3, -3, 3, 3), func(a, c api.Pt) {
 		for r := int64(1); r <= 3; r++ {
 			inside := map[api.Pt]bool{}
 			for _, p := range fine {
@@ -426,34 +386,15 @@ func TestHasDiscs(t *testing.T) {
 		}
 		return list
 	}
-	segments(bx(0, 0, 0, 0), bx(-3, -3, 3, 3), func(a, c api.Pt) {
+	sample.Segments(bx(0, 0, 0, 0), bx(-3, -3, 3, 3), func(a, c api.Pt) {
 		for r := int64(1); r <= 2; r++ {
 			for k := range int64(parts + 1) {
 				for _, p := range disc(r) {
-					checkHas(t, moved(p, k*c.X, k*c.Y), a, pt(parts*c.X, parts*c.Y), parts*r, true)
+					checkHas(t, sample.Moved(p, k*c.X, k*c.Y), a, pt(parts*c.X, parts*c.Y), parts*r, true)
 				}
 			}
 		}
 	})
-}
-
-// around returns a number at most 2 away from one of the given ones, or one of any size, up to Far.
-func around(random *rand.Rand, numbers ...int64) int64 {
-	if random.Intn(3) == 0 {
-		return sample.Number(random.Int63n)
-	}
-	v := numbers[random.Intn(len(numbers))] + random.Int63n(5) - 2
-	return min(max(v, -far), far)
-}
-
-// anyBox returns a box of any size, a corner of which is often beside the segment.
-func anyBox(random *rand.Rand, a, c api.Pt) api.Box {
-	if random.Intn(3) == 0 {
-		return sample.Box(random.Int63n)
-	}
-	p := pt(around(random, a.X, c.X, (a.X+c.X)/2), around(random, a.Y, c.Y, (a.Y+c.Y)/2))
-	q := pt(around(random, p.X, a.X), around(random, p.Y, c.Y))
-	return between(p, q)
 }
 
 // 7.1, 7.2: boxes and segments of any size up to Far, and radii that just reach their nearest or farthest points, or don't.
@@ -462,9 +403,9 @@ func TestAnySize(t *testing.T) {
 	classes := [3]int{}
 	for range 8000 {
 		a, c := sample.Point(random.Int63n), sample.Point(random.Int63n)
-		b := anyBox(random, a, c)
+		b := sample.Beside(random.Int63n, a, c)
 		nearest, most, corner := squareOf(b, a, c), farthest(b, a, c), pt(b.X0, b.Y1)
-		dot := squareOf(dotBox(corner), a, c)
+		dot := squareOf(sample.Dot(corner), a, c)
 		for _, root := range []int64{nearest.root(), most.root(), dot.root(), random.Int63n(1 << 31)} {
 			for r := root - 1; r <= root+1; r++ {
 				want := classOf(nearest, most, r)
@@ -482,64 +423,29 @@ func TestAnySize(t *testing.T) {
 	}
 }
 
-// exact is a slanted segment with a whole length in any direction, and a vector of length r across it.
-type exact struct {
-	a, c, along, normal api.Pt
-	r                   int64
-}
-
-// anyExact returns an exact of any size, none of whose points is beyond Far - 2.
-func anyExact(random *rand.Rand) exact {
-	for {
-		m, n := 2+random.Int63n(1000), 1+random.Int63n(1000)
-		x, y, length := (m*m-n*n)*(1-2*random.Int63n(2)), 2*m*n*(1-2*random.Int63n(2)), m*m+n*n
-		if x == 0 {
-			continue
-		}
-		times := 1 + random.Int63n(far/length/4+1)
-		long := random.Int63n(far/length/4 + 1)
-		e := exact{along: pt(x*long, y*long), normal: pt(-y*times, x*times), r: length * times}
-		room := far - 2 - length*(long+times)
-		if room < 0 {
-			continue
-		}
-		e.a = pt(random.Int63n(2*room+1)-room, random.Int63n(2*room+1)-room)
-		e.c = moved(e.a, e.along.X, e.along.Y)
-		return e
-	}
-}
-
-// sign is -1 or 1.
-func sign(v int64) int64 {
-	if v < 0 {
-		return -1
-	}
-	return 1
-}
-
 // 7.1, 7.2: points at a distance of exactly r from the ends and the middle of a segment, across it, of any size: each of them just fails with a radius less by 1, or one step farther out. The box that lies beyond such a point touches the stroke in it alone.
 func TestExactlyBeside(t *testing.T) {
 	random := rand.New(rand.NewSource(72))
 	for range 20000 {
-		e := anyExact(random)
+		e := sample.AnySlant(random.Int63n)
 		for _, side := range []int64{-1, 1} {
-			nx, ny := side*e.normal.X, side*e.normal.Y
-			sx, sy := sign(nx), sign(ny)
-			for _, foot := range []api.Pt{e.a, e.c, pt(e.a.X+e.along.X/2, e.a.Y+e.along.Y/2)} {
-				if (foot.X-e.a.X)*e.along.Y != (foot.Y-e.a.Y)*e.along.X {
+			nx, ny := side*e.Normal.X, side*e.Normal.Y
+			sx, sy := sample.Sign(nx), sample.Sign(ny)
+			for _, foot := range []api.Pt{e.A, e.C, pt(e.A.X+e.Along.X/2, e.A.Y+e.Along.Y/2)} {
+				if (foot.X-e.A.X)*e.Along.Y != (foot.Y-e.A.Y)*e.Along.X {
 					continue
 				}
-				p := moved(foot, nx, ny)
-				checkHas(t, p, e.a, e.c, e.r, true)
-				checkHas(t, p, e.a, e.c, e.r-1, false)
-				checkHas(t, moved(p, sx, 0), e.a, e.c, e.r, false)
-				checkHas(t, moved(p, 0, sy), e.a, e.c, e.r, false)
-				beyond := between(p, pt(sx*far, sy*far))
-				step := between(moved(p, sx, 0), pt(sx*far, sy*far))
-				checkClass(t, beyond, e.a, e.c, e.r, api.Mixed)
-				checkClass(t, beyond, e.a, e.c, e.r-1, api.Out)
-				checkClass(t, step, e.a, e.c, e.r, api.Out)
-				checkClass(t, step, e.a, e.c, e.r+1, api.Mixed)
+				p := sample.Moved(foot, nx, ny)
+				checkHas(t, p, e.A, e.C, e.R, true)
+				checkHas(t, p, e.A, e.C, e.R-1, false)
+				checkHas(t, sample.Moved(p, sx, 0), e.A, e.C, e.R, false)
+				checkHas(t, sample.Moved(p, 0, sy), e.A, e.C, e.R, false)
+				beyond := sample.Between(p, pt(sx*far, sy*far))
+				step := sample.Between(sample.Moved(p, sx, 0), pt(sx*far, sy*far))
+				checkClass(t, beyond, e.A, e.C, e.R, api.Mixed)
+				checkClass(t, beyond, e.A, e.C, e.R-1, api.Out)
+				checkClass(t, step, e.A, e.C, e.R, api.Out)
+				checkClass(t, step, e.A, e.C, e.R+1, api.Mixed)
 			}
 		}
 		if t.Failed() {
@@ -552,30 +458,30 @@ func TestExactlyBeside(t *testing.T) {
 func TestExactlyBeyond(t *testing.T) {
 	random := rand.New(rand.NewSource(73))
 	for range 20000 {
-		e := anyExact(random)
+		e := sample.AnySlant(random.Int63n)
 		// Straight back from a, and across the segment, mirrored so that it points back.
-		back := []api.Pt{pt(-e.normal.Y, e.normal.X), pt(e.normal.Y, -e.normal.X), pt(e.normal.X, -e.normal.Y), pt(-e.normal.X, e.normal.Y)}
+		back := []api.Pt{pt(-e.Normal.Y, e.Normal.X), pt(e.Normal.Y, -e.Normal.X), pt(e.Normal.X, -e.Normal.Y), pt(-e.Normal.X, e.Normal.Y)}
 		for _, v := range back {
-			if e.along != (api.Pt{}) && (v.X*e.along.X+v.Y*e.along.Y) >= 0 {
+			if e.Along != (api.Pt{}) && (v.X*e.Along.X+v.Y*e.Along.Y) >= 0 {
 				continue
 			}
-			p := moved(e.a, v.X, v.Y)
-			checkHas(t, p, e.a, e.c, e.r, true)
-			checkHas(t, p, e.a, e.c, e.r-1, false)
-			if sx := sign(v.X); e.along.X*sx <= 0 {
-				checkHas(t, moved(p, sx, 0), e.a, e.c, e.r, false)
+			p := sample.Moved(e.A, v.X, v.Y)
+			checkHas(t, p, e.A, e.C, e.R, true)
+			checkHas(t, p, e.A, e.C, e.R-1, false)
+			if sx := sample.Sign(v.X); e.Along.X*sx <= 0 {
+				checkHas(t, sample.Moved(p, sx, 0), e.A, e.C, e.R, false)
 			}
-			if sy := sign(v.Y); e.along.Y*sy <= 0 {
-				checkHas(t, moved(p, 0, sy), e.a, e.c, e.r, false)
+			if sy := sample.Sign(v.Y); e.Along.Y*sy <= 0 {
+				checkHas(t, sample.Moved(p, 0, sy), e.A, e.C, e.R, false)
 			}
 		}
-		x, y := max(e.normal.X, -e.normal.X), max(e.normal.Y, -e.normal.Y)
-		for _, end := range []api.Pt{e.a, e.c} {
+		x, y := max(e.Normal.X, -e.Normal.X), max(e.Normal.Y, -e.Normal.Y)
+		for _, end := range []api.Pt{e.A, e.C} {
 			b := bx(end.X-x, end.Y-y, end.X+x, end.Y+y)
-			checkClass(t, b, e.a, e.c, e.r, api.In)
-			checkClass(t, b, e.a, e.c, e.r-1, api.Mixed)
-			checkClass(t, bx(b.X0-1, b.Y0, b.X1+1, b.Y1), e.a, e.c, e.r, api.Mixed)
-			checkClass(t, bx(b.X0, b.Y0-1, b.X1, b.Y1+1), e.a, e.c, e.r, api.Mixed)
+			checkClass(t, b, e.A, e.C, e.R, api.In)
+			checkClass(t, b, e.A, e.C, e.R-1, api.Mixed)
+			checkClass(t, bx(b.X0-1, b.Y0, b.X1+1, b.Y1), e.A, e.C, e.R, api.Mixed)
+			checkClass(t, bx(b.X0, b.Y0-1, b.X1, b.Y1+1), e.A, e.C, e.R, api.Mixed)
 		}
 		if t.Failed() {
 			t.FailNow()
@@ -585,7 +491,7 @@ func TestExactlyBeyond(t *testing.T) {
 
 // 7.2: a box whose ends are exchanged has no point, and so none of any stroke.
 func TestExchangedEnds(t *testing.T) {
-	for _, b := range []api.Box{bx(1, 0, 0, 0), bx(0, 1, 0, 0), bx(1, 1, 0, 0), bx(1, -1, -1, 1), bx(-1, 1, 1, -1), bx(2, 2, -2, -2), bx(far, far, -far, -far), bx(9, 0, 8, 1)} {
+	for _, b := range sample.Backward() {
 		for _, c := range []api.Pt{pt(0, 0), pt(9, 0), pt(-3, 7), pt(far, far)} {
 			for _, r := range []int64{0, 1, 2, 5, far, across, math.MaxInt64} {
 				checkClass(t, b, pt(0, 0), c, r, api.Out)
@@ -596,26 +502,10 @@ func TestExchangedEnds(t *testing.T) {
 
 // 7.3: no call panics, whatever the order and the size of the numbers.
 func TestNoPanic(t *testing.T) {
-	random := rand.New(rand.NewSource(74))
-	number := func() int64 { return sample.Any(random.Int63n) }
-	for range 300000 {
-		a, c, r := pt(number(), number()), pt(number(), number()), number()
-		Has(pt(number(), number()), a, c, r)
-		if class := Class(bx(number(), number(), number(), number()), a, c, r); class != api.Out && class != api.Mixed && class != api.In {
+	sample.Wild(rand.New(rand.NewSource(74)).Int63n, func(b api.Box, p [4]api.Pt, r int64) {
+		Has(p[0], p[1], p[2], r)
+		if class := Class(b, p[1], p[2], r); class != api.Out && class != api.Mixed && class != api.In {
 			t.Fatal("class", class)
 		}
-	}
-	list := sample.Extremes()
-	for _, x := range list {
-		for _, y := range list {
-			for _, r := range list {
-				Has(pt(x, y), pt(y, x), pt(-x, r), r)
-				Has(pt(x, y), pt(x, y), pt(x, y), r)
-				Class(bx(x, y, x, y), pt(y, x), pt(r, x), r)
-				Class(bx(x, y, y, x), pt(r, x), pt(y, y), r)
-				Class(bx(x, x, y, y), pt(y, r), pt(-y, -r), x)
-				Class(bx(math.MinInt64, math.MinInt64, math.MaxInt64, math.MaxInt64), pt(x, x), pt(y, y), r)
-			}
-		}
-	}
+	})
 }

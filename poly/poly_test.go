@@ -605,7 +605,7 @@ func TestKeepsContours(t *testing.T) {
 // 6.2: a box whose ends are exchanged has no point, and so none of any contour.
 func TestExchangedEnds(t *testing.T) {
 	for _, l := range [][][]api.Pt{nil, frame(), list(square(-far, far)), list(path(1, 0)), list(path(-5, -5, 5, 5))} {
-		for _, b := range []api.Box{bx(1, 0, 0, 0), bx(0, 1, 0, 0), bx(2, 2, 1, 1), bx(2, 1, 1, 9), bx(1, 9, 2, 8), bx(far, far, -far, -far), bx(9, 0, 0, 9)} {
+		for _, b := range sample.Backward() {
 			if got := Class(b, l); got != api.Out {
 				t.Errorf("Class(%v, %v) = %d", b, l, got)
 			}

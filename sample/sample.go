@@ -34,6 +34,53 @@ func Points(b api.Box) []api.Pt {
 	return list
 }
 
+// Filled is a box with all of its points whose coordinates are whole.
+type Filled struct {
+	Box    api.Box
+	Points []api.Pt
+}
+
+// FilledBoxes returns those of Boxes, filled.
+func FilledBoxes(low, high int64) []Filled {
+	var list []Filled
+	for _, b := range Boxes(low, high) {
+		list = append(list, Filled{b, Points(b)})
+	}
+	return list
+}
+
+// Segments calls do with the ends of all segments from whole points of the one box to whole points of the other.
+func Segments(from, to api.Box, do func(a, c api.Pt)) {
+	for _, a := range Points(from) {
+		for _, c := range Points(to) {
+			do(a, c)
+		}
+	}
+}
+
+// Dot returns the box of one point.
+func Dot(p api.Pt) api.Box {
+	return Between(p, p)
+}
+
+// Between returns the box with these opposite corners.
+func Between(p, q api.Pt) api.Box {
+	return api.Box{X0: min(p.X, q.X), Y0: min(p.Y, q.Y), X1: max(p.X, q.X), Y1: max(p.Y, q.Y)}
+}
+
+// Moved returns p, moved by x and y.
+func Moved(p api.Pt, x, y int64) api.Pt {
+	return api.Pt{X: p.X + x, Y: p.Y + y}
+}
+
+// Sign returns -1 if v is negative, and otherwise 1.
+func Sign(v int64) int64 {
+	if v < 0 {
+		return -1
+	}
+	return 1
+}
+
 // Number returns a coordinate of any size up to Far, often one at or beside Far or 0. What it returns hangs on below, which returns numbers from 0 to n - 1.
 func Number(below func(n int64) int64) int64 {
 	switch below(6) {
@@ -61,7 +108,49 @@ func Box(below func(n int64) int64) api.Box {
 	if below(3) == 0 {
 		q.Y = p.Y
 	}
-	return api.Box{X0: min(p.X, q.X), Y0: min(p.Y, q.Y), X1: max(p.X, q.X), Y1: max(p.Y, q.Y)}
+	return Between(p, q)
+}
+
+// Beside returns a box, a corner of which is often beside an end or the middle of the segment from a to c. What it returns hangs on below, as that of Number.
+func Beside(below func(n int64) int64, a, c api.Pt) api.Box {
+	if below(3) == 0 {
+		return Box(below)
+	}
+	p := api.Pt{X: around(below, a.X, c.X, (a.X+c.X)/2), Y: around(below, a.Y, c.Y, (a.Y+c.Y)/2)}
+	q := api.Pt{X: around(below, p.X, a.X), Y: around(below, p.Y, c.Y)}
+	return Between(p, q)
+}
+
+// around returns a number at most 2 away from one of the given ones, or a Number.
+func around(below func(n int64) int64, numbers ...int64) int64 {
+	if below(3) == 0 {
+		return Number(below)
+	}
+	v := numbers[below(int64(len(numbers)))] + below(5) - 2
+	return min(max(v, -api.Far), api.Far)
+}
+
+// Slant is a slanted segment from A to C = A + Along, with a vector Normal across it, to the left, whose length is exactly R.
+type Slant struct {
+	A, C, Along, Normal api.Pt
+	R                   int64
+}
+
+// AnySlant returns a Slant of any size, which may be of one point. No point at a distance of at most R from it is beyond Far - 2. What it returns hangs on below, as that of Number.
+func AnySlant(below func(n int64) int64) Slant {
+	for {
+		m, n := 2+below(1000), 1+below(1000)
+		x, y, length := (m*m-n*n)*(1-2*below(2)), 2*m*n*(1-2*below(2)), m*m+n*n
+		times := 1 + below(api.Far/length/4+1)
+		long := below(api.Far/length/4 + 1)
+		room := api.Far - 2 - length*(long+times)
+		if x == 0 || room < 0 {
+			continue
+		}
+		a := api.Pt{X: below(2*room+1) - room, Y: below(2*room+1) - room}
+		along := api.Pt{X: x * long, Y: y * long}
+		return Slant{A: a, C: Moved(a, along.X, along.Y), Along: along, Normal: api.Pt{X: -y * times, Y: x * times}, R: length * times}
+	}
 }
 
 // Extremes returns 0, and numbers beside it, at Far, just beyond it, and at the ends of 64 bits.
@@ -76,6 +165,45 @@ func Any(below func(n int64) int64) int64 {
 	}
 	list := Extremes()
 	return list[below(int64(len(list)))]
+}
+
+// Wild calls do with boxes, points and radii of any size, many of them of Extremes; the ends of most boxes are exchanged. What it hands on hangs on below, as that of Number.
+func Wild(below func(n int64) int64, do func(b api.Box, p [4]api.Pt, r int64)) {
+	number := func() int64 { return Any(below) }
+	point := func() api.Pt { return api.Pt{X: number(), Y: number()} }
+	for range 300000 {
+		do(api.Box{X0: number(), Y0: number(), X1: number(), Y1: number()}, [4]api.Pt{point(), point(), point(), point()}, number())
+	}
+	list := Extremes()
+	for _, x := range list {
+		for _, y := range list {
+			for _, r := range list {
+				do(api.Box{X0: x, Y0: y, X1: x, Y1: y}, [4]api.Pt{{X: x, Y: y}, {X: y, Y: x}, {X: -x, Y: r}, {X: r, Y: x}}, r)
+				do(api.Box{X0: x, Y0: y, X1: y, Y1: x}, [4]api.Pt{{X: x, Y: y}, {X: x, Y: y}, {X: x, Y: y}, {X: x, Y: y}}, r)
+				do(api.Box{X0: x, Y0: x, X1: y, Y1: y}, [4]api.Pt{{X: r, Y: x}, {X: y, Y: r}, {X: -y, Y: -r}, {X: y, Y: y}}, x)
+				do(api.Box{X0: -1 << 63, Y0: -1 << 63, X1: 1<<63 - 1, Y1: 1<<63 - 1}, [4]api.Pt{{X: x, Y: x}, {X: y, Y: y}, {X: r, Y: r}, {X: y, Y: y}}, r)
+			}
+		}
+	}
+}
+
+// Backward returns boxes whose ends are exchanged, none beyond Far.
+func Backward() []api.Box {
+	return []api.Box{
+		{X0: 1}, {Y0: 1}, {X0: 1, Y0: 1}, {X0: 1, Y0: -1, X1: -1, Y1: 1}, {X0: -1, Y0: 1, X1: 1, Y1: -1}, {X0: 2, Y0: 2, X1: -2, Y1: -2}, {X0: 2, Y0: 1, X1: 1, Y1: 9}, {X0: 1, Y0: 9, X1: 2, Y1: 8}, {X0: 9, X1: 8, Y1: 1}, {X0: 9, Y1: 9},
+		{X0: api.Far, Y0: api.Far, X1: -api.Far, Y1: -api.Far},
+	}
+}
+
+// Scattered returns the points whose coordinates are 0, or at Far or just before it.
+func Scattered() []api.Pt {
+	var list []api.Pt
+	for _, x := range []int64{-api.Far, 1 - api.Far, 0, api.Far} {
+		for _, y := range []int64{-api.Far, 1 - api.Far, 0, api.Far} {
+			list = append(list, api.Pt{X: x, Y: y})
+		}
+	}
+	return list
 }
 
 // NoRadii returns radii of empty shapes; some have squares that are great, or that wrap round.

@@ -27,6 +27,72 @@ func TestAll(t *testing.T) {
 	}
 }
 
+// Each filled box has its own points, and each segment comes once.
+func TestFilledAndSegments(t *testing.T) {
+	list := FilledBoxes(-1, 2)
+	if len(list) != len(Boxes(-1, 2)) {
+		t.Errorf("%d boxes", len(list))
+	}
+	for i, b := range Boxes(-1, 2) {
+		if list[i].Box != b || !slices.Equal(list[i].Points, Points(b)) {
+			t.Error(list[i])
+		}
+	}
+	var ends []api.Pt
+	Segments(api.Box{X0: 1, X1: 2}, api.Box{X0: 7, X1: 7, Y1: 1}, func(a, c api.Pt) { ends = append(ends, a, c) })
+	want := []api.Pt{{X: 1}, {X: 7}, {X: 1}, {X: 7, Y: 1}, {X: 2}, {X: 7}, {X: 2}, {X: 7, Y: 1}}
+	if !slices.Equal(ends, want) {
+		t.Error(ends)
+	}
+}
+
+// Boxes of points, points moved, and signs.
+func TestPlaces(t *testing.T) {
+	p, q := api.Pt{X: 3, Y: -7}, api.Pt{X: -2, Y: 5}
+	if Dot(p) != (api.Box{X0: 3, Y0: -7, X1: 3, Y1: -7}) || Between(p, q) != (api.Box{X0: -2, Y0: -7, X1: 3, Y1: 5}) || Between(q, p) != Between(p, q) || Moved(p, 10, 20) != (api.Pt{X: 13, Y: 13}) {
+		t.Error(Dot(p), Between(p, q), Between(q, p), Moved(p, 10, 20))
+	}
+	if Sign(-1<<63) != -1 || Sign(-1) != -1 || Sign(0) != 1 || Sign(1) != 1 || Sign(1<<63-1) != 1 {
+		t.Error("signs")
+	}
+}
+
+// The vector across a slant has exactly its length, is at its left, and leads nowhere beyond Far - 2; the boxes beside it aren't beyond Far, and some are near its ends.
+func TestSlants(t *testing.T) {
+	below := rand.New(rand.NewSource(2)).Int63n
+	dots, long, wide, near := 0, 0, 0, 0
+	for range 2000 {
+		s := AnySlant(below)
+		n, v := s.Normal, s.Along
+		if s.R < 1 || n.X*n.X+n.Y*n.Y != s.R*s.R || n.X*v.X+n.Y*v.Y != 0 || v.X*n.Y-v.Y*n.X < 0 || n.X == 0 || n.Y == 0 || Moved(s.A, v.X, v.Y) != s.C {
+			t.Fatal(s)
+		}
+		for _, end := range []api.Pt{s.A, s.C} {
+			if max(end.X, end.Y)+s.R > api.Far-2 || min(end.X, end.Y)-s.R < 2-api.Far {
+				t.Fatal(s)
+			}
+		}
+		if s.A == s.C {
+			dots++
+		} else if max(v.X, v.Y, -v.X, -v.Y) > api.Far/8 {
+			long++
+		}
+		if s.R > api.Far/8 {
+			wide++
+		}
+		b := Beside(below, s.A, s.C)
+		if b.X0 < -api.Far || b.X0 > b.X1 || b.X1 > api.Far || b.Y0 < -api.Far || b.Y0 > b.Y1 || b.Y1 > api.Far {
+			t.Fatal(b)
+		}
+		if Sign(b.X0-s.A.X+2) != Sign(b.X0-s.A.X-3) && Sign(b.Y0-s.A.Y+2) != Sign(b.Y0-s.A.Y-3) {
+			near++
+		}
+	}
+	if min(dots, long, wide, near) < 5 {
+		t.Error("too few:", dots, long, wide, near)
+	}
+}
+
 // No number is beyond Far, no box has exchanged ends, and the numbers and boxes at which faults hide do come.
 func TestRandom(t *testing.T) {
 	below := rand.New(rand.NewSource(1)).Int63n
@@ -63,6 +129,44 @@ func TestRandom(t *testing.T) {
 		t.Error("no others come:", len(seen))
 	}
 	if list := Extremes(); slices.Max(list) != 1<<63-1 || slices.Min(list) != -1<<63 {
+		t.Error(list)
+	}
+}
+
+// All of the extremes come in each place.
+func TestWild(t *testing.T) {
+	var found [13]map[int64]int
+	for i := range found {
+		found[i] = map[int64]int{}
+	}
+	Wild(rand.New(rand.NewSource(3)).Int63n, func(b api.Box, p [4]api.Pt, r int64) {
+		for i, v := range []int64{b.X0, b.Y0, b.X1, b.Y1, p[0].X, p[0].Y, p[1].X, p[1].Y, p[2].X, p[2].Y, p[3].X, p[3].Y, r} {
+			found[i][v]++
+		}
+	})
+	for i, seen := range found {
+		for _, v := range Extremes() {
+			if seen[v] == 0 {
+				t.Error(v, "never comes at", i)
+			}
+		}
+	}
+}
+
+// The boxes with exchanged ends have no point, and none beyond Far; the scattered points differ.
+func TestLists(t *testing.T) {
+	for _, b := range Backward() {
+		if b.X0 <= b.X1 && b.Y0 <= b.Y1 || max(b.X0, b.Y0, b.X1, b.Y1) > api.Far || min(b.X0, b.Y0, b.X1, b.Y1) < -api.Far {
+			t.Error(b)
+		}
+	}
+	list := Scattered()
+	for i, p := range list {
+		if slices.Index(list, p) != i || max(p.X, p.Y) > api.Far || min(p.X, p.Y) < -api.Far {
+			t.Error(p)
+		}
+	}
+	if len(list) != 16 {
 		t.Error(list)
 	}
 }
