@@ -1,4 +1,4 @@
-// Package sample makes the numbers, points, boxes and radii that the tests of several packages try.
+// Package sample makes the numbers, points, boxes, arcs and radii that the tests of several packages try.
 package sample
 
 import (
@@ -151,6 +151,69 @@ func AnySlant(below func(n int64) int64) Slant {
 		along := api.Pt{X: x * long, Y: y * long}
 		return Slant{A: a, C: Moved(a, along.X, along.Y), Along: along, Normal: api.Pt{X: -y * times, Y: x * times}, R: length * times}
 	}
+}
+
+// Arcs calls do with the ends of all arcs around the origin from whole points of the one box counterclockwise to whole points of the other.
+func Arcs(from, to api.Box, do func(a, e api.Pt)) {
+	Segments(from, to, func(a, e api.Pt) {
+		if a != (api.Pt{}) && a.X*a.X+a.Y*a.Y == e.X*e.X+e.Y*e.Y {
+			do(a, e)
+		}
+	})
+}
+
+// Arc is an arc around C from A counterclockwise to E, or the whole circle if E equals A.
+type Arc struct{ C, A, E api.Pt }
+
+// AnyArc returns an Arc of any size, often half a turn, a whole one, or one of nearly nothing or nearly a whole turn; no point of the three is beyond Far. What it returns hangs on below, as that of Number.
+func AnyArc(below func(n int64) int64) Arc {
+	for {
+		a, e := vectors(below)
+		x, wide := place(below, a.X, e.X)
+		y, high := place(below, a.Y, e.Y)
+		if a == (api.Pt{}) || !wide || !high {
+			continue
+		}
+		c := api.Pt{X: x, Y: y}
+		return Arc{C: c, A: Moved(a, x, y), E: Moved(e, x, y)}
+	}
+}
+
+// vectors returns two vectors of the same length, no coordinate of which exceeds 2^30.
+func vectors(below func(n int64) int64) (a, e api.Pt) {
+	number := func(bits int64) int64 { return below(2<<bits+1) - 1<<bits }
+	all := 29 - below(30)*below(2)
+	bits := below(all + 1)
+	z, w := api.Pt{X: number(all - bits), Y: number(below(all - bits + 1))}, api.Pt{X: number(bits), Y: number(below(bits + 1))}
+	if below(3) == 0 {
+		w.Y = below(3) - 1
+	}
+	// As complex numbers, z times w and z times the conjugate of w.
+	a, e = api.Pt{X: z.X*w.X - z.Y*w.Y, Y: z.X*w.Y + z.Y*w.X}, api.Pt{X: z.X*w.X + z.Y*w.Y, Y: z.Y*w.X - z.X*w.Y}
+	if below(8) == 0 {
+		e = a
+	}
+	for range below(4) {
+		e = api.Pt{X: -e.Y, Y: e.X}
+	}
+	return a, e
+}
+
+// place returns a coordinate of a centre, from which no step in the list leads beyond Far, often the first or the last of them, or false if there is none.
+func place(below func(n int64) int64, steps ...int64) (int64, bool) {
+	first, last := int64(-api.Far), int64(api.Far)
+	for _, step := range steps {
+		first, last = max(first, -api.Far-step), min(last, api.Far-step)
+	}
+	switch {
+	case first > last:
+		return 0, false
+	case below(4) == 0:
+		return first, true
+	case below(4) == 0:
+		return last, true
+	}
+	return first + below(last-first+1), true
 }
 
 // Extremes returns 0, and numbers beside it, at Far, just beyond it, and at the ends of 64 bits.

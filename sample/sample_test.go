@@ -93,6 +93,53 @@ func TestSlants(t *testing.T) {
 	}
 }
 
+// Each arc around the origin comes once, and none is left out.
+func TestArcs(t *testing.T) {
+	var ends []api.Pt
+	Arcs(api.Box{X1: 1}, api.Box{X0: -1, Y0: -1, X1: 1, Y1: 2}, func(a, e api.Pt) { ends = append(ends, a, e) })
+	want := []api.Pt{{X: 1}, {X: -1}, {X: 1}, {Y: -1}, {X: 1}, {Y: 1}, {X: 1}, {X: 1}}
+	if !slices.Equal(ends, want) {
+		t.Error(ends)
+	}
+}
+
+// The ends of an arc have the same distance from its centre, which is not 0; none of the points is beyond Far; and arcs of all kinds come.
+func TestAnyArc(t *testing.T) {
+	below := rand.New(rand.NewSource(4)).Int63n
+	circles, halves, little, great, short, long := 0, 0, 0, 0, 0, 0
+	for range 5000 {
+		s := AnyArc(below)
+		for _, p := range []api.Pt{s.C, s.A, s.E} {
+			if max(p.X, p.Y) > api.Far || min(p.X, p.Y) < -api.Far {
+				t.Fatal(s)
+			}
+		}
+		a, e := Moved(s.A, -s.C.X, -s.C.Y), Moved(s.E, -s.C.X, -s.C.Y)
+		square, cross, dot := a.X*a.X+a.Y*a.Y, a.X*e.Y-a.Y*e.X, a.X*e.X+a.Y*e.Y
+		switch {
+		case square == 0 || square != e.X*e.X+e.Y*e.Y:
+			t.Fatal(s)
+		case a == e:
+			circles++
+		case cross == 0:
+			halves++
+		case dot > 0 && cross > 0 && cross < square>>10:
+			little++
+		case dot > 0 && cross < 0 && -cross < square>>10:
+			great++
+		}
+		if square < 100 {
+			short++
+		}
+		if square > 1<<57 {
+			long++
+		}
+	}
+	if min(circles, halves, little, great, short, long) < 100 {
+		t.Error("too few:", circles, halves, little, great, short, long)
+	}
+}
+
 // No number is beyond Far, no box has exchanged ends, and the numbers and boxes at which faults hide do come.
 func TestRandom(t *testing.T) {
 	below := rand.New(rand.NewSource(1)).Int63n
