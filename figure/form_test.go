@@ -395,6 +395,41 @@ func TestClassBetween(t *testing.T) {
 	counts.check(t, 100)
 }
 
+// onEdge is whether p is on an edge of a poly in s.
+func onEdge(s api.Shape, p api.Pt) bool {
+	for _, part := range s.Parts {
+		if onEdge(part.Shape, p) {
+			return true
+		}
+	}
+	return s.Kind == api.SPoly && poly.Class(sample.Dot(p), s.L) == api.Mixed
+}
+
+// W2 of the document: what is In or Out stays so with finer boxes, down to single points, of which only those on the edges of polys are Mixed.
+func TestFiner(t *testing.T) {
+	below := rand.New(rand.NewSource(110)).Int63n
+	list, counts := sample.Boxes(-2, 2), tally{}
+	for range 1000 {
+		s := sample.SmallShape(below, 4, 3)
+		classes := map[api.Box]int{}
+		for _, b := range list {
+			classes[b] = Class(s, b)
+		}
+		for _, b := range list {
+			counts.note(s, b, classes[b])
+			for _, finer := range []api.Box{bx(b.X0, b.Y0, b.X1-1, b.Y1), bx(b.X0, b.Y0, b.X1, b.Y1-1), bx(b.X0+1, b.Y0, b.X1, b.Y1), bx(b.X0, b.Y0+1, b.X1, b.Y1)} {
+				if class, ok := classes[finer]; ok && classes[b] != api.Mixed && class != classes[b] {
+					t.Fatal(s, b, classes[b], finer, class)
+				}
+			}
+			if p := pt(b.X0, b.Y0); b == sample.Dot(p) && classes[b] == api.Mixed && !onEdge(s, p) {
+				t.Fatal(s, p)
+			}
+		}
+	}
+	counts.check(t, 100)
+}
+
 // 10.1: a box whose ends are exchanged has no point, in no layer.
 func TestExchangedEnds(t *testing.T) {
 	for _, b := range sample.Backward() {
